@@ -1,0 +1,1 @@
+"""A proxy reward monitor: two reward tables over one decision process."""

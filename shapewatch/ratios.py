@@ -1,0 +1,26 @@
+"""Exact fractions, told as a numerator and a denominator."""
+
+
+def greatest_divisor(first, second):
+    larger = abs(first)
+    smaller = abs(second)
+    while smaller != 0:
+        rest = larger % smaller
+        larger = smaller
+        smaller = rest
+    return larger
+
+
+def lowest_terms(numerator, denominator):
+    divisor = greatest_divisor(numerator, denominator)
+    # The sign belongs to the numerator.
+    if denominator < 0:
+        divisor = -divisor
+    return [numerator // divisor, denominator // divisor]
+
+
+def lowest_terms_each(numerators, denominator):
+    listed = []
+    for numerator in numerators:
+        listed.extend(lowest_terms(numerator, denominator))
+    return listed
