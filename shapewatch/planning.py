@@ -1,9 +1,9 @@
-"""Values of policies, optimal values and optimal actions.
+"""Values of policies, optimal values, actions and policies, and what following the other table costs.
 
 The values of all states are a Solution: whole shares over one positive divisor.
 """
 
-from shapewatch.linear import solved
+from shapewatch.linear import Solution, solved
 
 
 # What the values of all states fulfil if the action is taken in the state: their coefficients, then the right side.
@@ -55,10 +55,35 @@ def optimal_worth(process, rewards):
     return worth
 
 
-def optimal_marks(process, rewards):
+def actions_worth_most(process, rewards, state, worth):
+    return [
+        action for action in range(process.action_count)
+        if advantage(process, rewards, state, action, worth) == 0
+    ]
+
+
+def optimal_actions(process, rewards):
     worth = optimal_worth(process, rewards)
-    marks = []
-    for state in range(process.state_count):
-        for action in range(process.action_count):
-            marks.append(advantage(process, rewards, state, action, worth) == 0)
-    return marks
+    return [actions_worth_most(process, rewards, state, worth) for state in range(process.state_count)]
+
+
+def optimal_actions_agree(process):
+    return optimal_actions(process, process.tables[0]) == optimal_actions(process, process.tables[1])
+
+
+def best_policy(process, rewards):
+    return [actions[0] for actions in optimal_actions(process, rewards)]
+
+
+def lost_worth(process):
+    rewards = process.tables[1]
+    best = optimal_worth(process, rewards)
+    reached = policy_worth(process, rewards, best_policy(process, process.tables[0]))
+    shares = [most * reached.divisor - share * best.divisor for most, share in zip(best.shares, reached.shares)]
+    return Solution(shares, best.divisor * reached.divisor)
+
+
+def regret_bound(process):
+    lost = lost_worth(process)
+    # The two signs make the division round up.
+    return -(-max(lost.shares) // lost.divisor)

@@ -8,7 +8,7 @@ def sure_weights(state_count, target):
 
 
 # A table is one list, ordered by state, then action, then next state; the weights are one list for every pair of
-# a state and an action. These lists are replaced as a whole and never changed in place.
+# a state and an action. These lists are replaced as a whole and never changed in place, so a copy may share them.
 class Process:
     def __init__(self, state_count, action_count, discount_num, discount_den):
         self.state_count = state_count
@@ -17,6 +17,15 @@ class Process:
         self.discount_den = discount_den
         self.tables = [[0] * self.reward_count(), [0] * self.reward_count()]
         self.weights = [sure_weights(state_count, pair // action_count) for pair in range(self.pair_count())]
+
+    def copied(self):
+        other = Process(self.state_count, self.action_count, self.discount_num, self.discount_den)
+        other.tables = list(self.tables)
+        other.weights = self.weights
+        return other
+
+    def discount(self):
+        return [self.discount_num, self.discount_den]
 
     def pair_count(self):
         return self.state_count * self.action_count

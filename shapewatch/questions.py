@@ -1,12 +1,12 @@
-"""The calls that ask about the reward tables and change nothing.
+"""The calls that ask about the process and its reward tables and change nothing.
 
 Each takes the process and the numbers of the call, and answers a list.
 """
 
 from shapewatch.codes import MISSING, NOT_EQUIVALENT
-from shapewatch.planning import optimal_marks, optimal_worth
+from shapewatch.planning import best_policy, lost_worth, optimal_actions_agree, optimal_worth, regret_bound
 from shapewatch.ratios import lowest_terms_each
-from shapewatch.shaping import equivalent, factor_between, turning_potentials
+from shapewatch.shaping import equivalent, factor_between, turning_potential
 
 
 def are_equivalent(process, numbers):
@@ -16,7 +16,10 @@ def are_equivalent(process, numbers):
 def potentials(process, numbers):
     if not equivalent(process):
         return [NOT_EQUIVALENT]
-    return [process.state_count] + turning_potentials(process)
+    told = [process.state_count]
+    for state in range(process.state_count):
+        told.extend(turning_potential(process, state))
+    return told
 
 
 def equivalence_factor(process, numbers):
@@ -27,8 +30,7 @@ def equivalence_factor(process, numbers):
 
 
 def same_optimal_actions(process, numbers):
-    same = optimal_marks(process, process.tables[0]) == optimal_marks(process, process.tables[1])
-    return [1 if same else 0]
+    return [1 if optimal_actions_agree(process) else 0]
 
 
 def optimal_values(process, numbers):
@@ -39,13 +41,36 @@ def optimal_values(process, numbers):
     return [process.state_count] + lowest_terms_each(worth.shares, worth.divisor)
 
 
+def optimal_policy(process, numbers):
+    table = numbers[0]
+    if not process.has_table(table):
+        return [MISSING]
+    return [process.state_count] + best_policy(process, process.tables[table])
+
+
+def regrets(process, numbers):
+    lost = lost_worth(process)
+    return [process.state_count] + lowest_terms_each(lost.shares, lost.divisor)
+
+
+def least_regret_bound(process, numbers):
+    return [regret_bound(process)]
+
+
 QUESTIONS = {
     8: are_equivalent,
     9: potentials,
     10: equivalence_factor,
     11: same_optimal_actions,
     12: optimal_values,
+    13: optimal_policy,
+    14: regrets,
+    19: least_regret_bound,
 }
+
+
+def is_question(number):
+    return number in QUESTIONS
 
 
 def answer_question(process, number, numbers):

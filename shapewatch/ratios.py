@@ -19,6 +19,14 @@ def lowest_terms(numerator, denominator):
     return [numerator // divisor, denominator // divisor]
 
 
+def added(first, second):
+    return lowest_terms(first[0] * second[1] + second[0] * first[1], first[1] * second[1])
+
+
+def multiplied(first, second):
+    return lowest_terms(first[0] * second[0], first[1] * second[1])
+
+
 def lowest_terms_each(numerators, denominator):
     listed = []
     for numerator in numerators:

@@ -1,6 +1,6 @@
 """Shaping of reward tables by potentials, and what tables have in common up to it."""
 
-from shapewatch.ratios import lowest_terms, lowest_terms_each
+from shapewatch.ratios import lowest_terms
 
 
 # The potentials count discount_den times, so that the rewards stay whole.
@@ -28,12 +28,11 @@ def equivalent(process):
     return settled(process, process.tables[0]) == settled(process, process.tables[1])
 
 
-# They turn table 0 into table 1 only if the tables are equivalent.
-def turning_potentials(process):
-    sources = loop_rewards(process, process.tables[0])
-    results = loop_rewards(process, process.tables[1])
-    numerators = [process.discount_den * (source - result) for source, result in zip(sources, results)]
-    return lowest_terms_each(numerators, process.discount_den - process.discount_num)
+# The potentials turn table 0 into table 1 only if the tables are equivalent.
+def turning_potential(process, state):
+    place = process.place(state, 0, state)
+    difference = process.tables[0][place] - process.tables[1][place]
+    return lowest_terms(process.discount_den * difference, process.discount_den - process.discount_num)
 
 
 def factor_between(process):

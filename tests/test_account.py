@@ -2,24 +2,7 @@
 
 import unittest
 
-from tests.helper import Account, ask, fractions_in, listed
-
-
-class Numbers:
-    """A row of numbers that is the same each time."""
-
-    def __init__(self, seed):
-        self.state = seed * 2 + 1
-
-    def below(self, limit):
-        self.state = (self.state * 6364136223846793005 + 1442695040888963407) % 2 ** 64
-        return (self.state >> 33) % limit
-
-    def between(self, lowest, highest):
-        return lowest + self.below(highest - lowest + 1)
-
-    def several(self, count, lowest, highest):
-        return [self.between(lowest, highest) for _ in range(count)]
+from tests.helper import Account, Numbers, ask, fractions_in, listed
 
 
 def shaped(table, state_count, action_count, num, den, p):

@@ -70,6 +70,10 @@ BUSY = (
     ("set_transition", 0, 1, [2, 5]),
     ("set_transition", 1, 0, [9, 0]),
     ("set_transition", 1, 1, [7, 8]),
+    ("run_episode", 0, 0, [5, 500, 995]),
+    ("run_episode", 1, 1, []),
+    ("add_guarantee", 2, 1000),
+    ("add_guarantee", 2, 999),
 )
 
 
@@ -92,9 +96,15 @@ class Form(unittest.TestCase):
         calls = [("create", 4, 3, 9, 10)] + [("set_rewards", 0, [-2147483648] * 50)] * 58 + [("are_equivalent",)]
         self.assertEqual(ask(*calls), [[48]] + [[-22]] * 58 + [[1]])
 
+    def test_sixty_episodes_of_six_steps(self):
+        calls = [("create", 2, 1, 1, 2)] + [("preview_episode", 0, 1, [999] * 6)] * 59
+        self.assertEqual(ask(*calls), [[4]] + [[6, 0, 1, 0, 1] + [0, 1] * 6] * 59)
+
     def test_answers_are_whole_numbers_and_never_true_or_false(self):
         calls = list(BUSY) + [("are_equivalent",), ("same_optimal_actions",), ("optimal_values", 0), ("copy_rewards", 0)]
         calls += [("are_equivalent",), ("same_optimal_actions",), ("potentials",), ("equivalence_factor",)]
+        calls += [call for call in GOOD_CALLS if call[0] not in ("set_reward", "set_rewards")]
+        calls += [("check_guarantee", kind, 0) for kind in range(3)]
         given = answers(told(calls))
         self.assertIs(type(given), list)
         self.assertEqual({type(number) for number in given}, {int})
@@ -102,6 +112,7 @@ class Form(unittest.TestCase):
     def test_what_is_handed_in_stays_and_answers_the_same_again(self):
         calls = list(BUSY) + [("copy_rewards", 1), ("shape_rewards", 1, [3, -4]), ("set_reward", 1, 0, 0, 0, [5])]
         calls += [("potentials",), ("set_deterministic", [1, 1, 0, 0]), ("scale_rewards", 0, 3), ("optimal_values", 0)]
+        calls += GOOD_CALLS
         handed = told(calls)
         copy = list(handed)
         first = answers(handed)
@@ -112,7 +123,8 @@ class Form(unittest.TestCase):
     def test_nothing_is_kept_from_one_request_to_the_next(self):
         self.assertEqual(ask(*BUSY)[0], [8])
         self.assertEqual(ask(("are_equivalent",)), [[-11]])
-        self.assertEqual(ask(("create", 2, 2, 1, 3), ("optimal_values", 0)), [[8], [2, 0, 1, 0, 1]])
+        fresh = ask(("create", 2, 2, 1, 3), ("optimal_values", 0), ("status",), ("total_returns",))
+        self.assertEqual(fresh, [[8], [2, 0, 1, 0, 1], [4, 2, 2, 0, 0], [0, 0, 1, 0, 1]])
 
 
 class NoMonitor(unittest.TestCase):
@@ -174,9 +186,38 @@ class Create(unittest.TestCase):
         fresh = (("create", 2, 2, 3, 4),)
         self.assertEqual(everything(BUSY + fresh, 2, 2), everything(fresh, 2, 2))
 
+    def test_without_guarantees_and_episodes(self):
+        self.assertEqual(last(*BUSY, ("status",)), [4, 2, 2, 2, 2])
+        again = (("create", 3, 1, 1, 2), ("status",), ("get_guarantee", 0), ("get_episode", 0))
+        self.assertEqual(ask(*BUSY, *again)[-4:], [[9], [4, 3, 1, 0, 0], [-2], [-2]])
+
     def test_the_new_monitor_has_its_own_sizes(self):
         calls = BUSY + (("create", 3, 1, 1, 2), ("set_reward", 0, 2, 0, 2, [1]), ("set_reward", 0, 0, 1, 0, [1]))
         self.assertEqual(ask(*calls, ("optimal_values", 0))[-4:], [[9], [0, 0], [-2], [3, 0, 1, 0, 1, 2, 1]])
+
+
+class Status(unittest.TestCase):
+    def test_the_numbers_of_states_and_actions(self):
+        for states in (2, 3, 4):
+            for actions in (1, 2, 3):
+                self.assertEqual(last(("create", states, actions, 1, 2), ("status",)), [4, states, actions, 0, 0])
+
+    def test_the_number_of_guarantees(self):
+        calls = [("create", 4, 1, 1, 2), ("status",)]
+        for value in range(4):
+            calls += [("add_guarantee", 2, value), ("status",)]
+        for place in (2, 2, 1, 0, 0):
+            calls += [("remove_guarantee", place), ("status",)]
+        found = [row[3:] for row in ask(*calls)[1::2]]
+        self.assertEqual(found, [[count, 0] for count in (0, 1, 2, 3, 3, 2, 2, 1, 0, 0)])
+
+    def test_the_number_of_episodes(self):
+        calls = [("create", 3, 2, 1, 2), ("status",)]
+        for _ in range(13):
+            calls += [("run_episode", 0, 0, [1]), ("status",)]
+        calls += [("preview_episode", 0, 0, [1]), ("status",)]
+        found = [row[3:] for row in ask(*calls)[1::2]]
+        self.assertEqual(found, [[0, count] for count in (*range(13), 12, 12)])
 
 
 if __name__ == "__main__":

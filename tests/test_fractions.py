@@ -2,11 +2,13 @@
 
 import unittest
 from fractions import Fraction
+from math import ceil
 
+from shapewatch.episodes import corrected_return, run_episode, total_returns
 from shapewatch.linear import solved
 from shapewatch.process import Process
-from shapewatch.questions import equivalence_factor, optimal_values, potentials
-from shapewatch.ratios import greatest_divisor, lowest_terms, lowest_terms_each
+from shapewatch.questions import equivalence_factor, least_regret_bound, optimal_values, potentials, regrets
+from shapewatch.ratios import added, greatest_divisor, lowest_terms, lowest_terms_each, multiplied
 from tests.helper import Account, listed, solve
 
 HUGE = 3 ** 90
@@ -27,6 +29,8 @@ class LowestTerms(unittest.TestCase):
         self.assertEqual(lowest_terms(-6, 4), [-3, 2])
         self.assertEqual(lowest_terms(6, -4), [-3, 2])
         self.assertEqual(lowest_terms(-6, -4), [3, 2])
+        self.assertEqual(lowest_terms(-3, -1), [3, 1])
+        self.assertEqual(lowest_terms(3, -1), [-3, 1])
         self.assertEqual(lowest_terms(-5, 1), [-5, 1])
 
     def test_beyond_64_bits(self):
@@ -42,6 +46,23 @@ class LowestTerms(unittest.TestCase):
     def test_divisors(self):
         for first, second, expected in ((12, 18, 6), (18, 12, 6), (-12, 18, 6), (12, -18, 6), (0, 5, 5), (5, 0, 5), (1, 9, 1)):
             self.assertEqual(greatest_divisor(first, second), expected)
+
+
+class Reckoning(unittest.TestCase):
+    FRACTIONS = (
+        [0, 1], [1, 1], [-1, 1], [1, 2], [-1, 2], [3, 4], [5, 6], [-5, 6], [7, 1], [HUGE, 2], [-HUGE, 2 ** 100], [2, HUGE],
+    )
+
+    def test_sums_and_products_in_lowest_terms(self):
+        for first in self.FRACTIONS:
+            for second in self.FRACTIONS:
+                with self.subTest(first=first, second=second):
+                    self.assertEqual(added(first, second), listed([Fraction(*first) + Fraction(*second)]))
+                    self.assertEqual(multiplied(first, second), listed([Fraction(*first) * Fraction(*second)]))
+
+    def test_what_is_handed_in_in_other_terms(self):
+        self.assertEqual(added([2, 8], [2, 8]), [1, 2])
+        self.assertEqual(multiplied([2, 8], [4, 2]), [1, 2])
 
 
 class Solving(unittest.TestCase):
@@ -81,6 +102,27 @@ class HugeRewards(unittest.TestCase):
             found = optimal_values(process, [table])
             self.assertEqual(found, [2] + listed(account.optimal_values(table)))
             self.assertGreater(abs(found[1]), 2 ** 64)
+
+    def test_regrets(self):
+        tables = [[5 * k - HUGE * k * k for k in range(8)], [HUGE * k * k - 5 * k for k in range(8)]]
+        weights = [[1, 6], [9, 4], [2, 5], [8, 3]]
+        process = Process(2, 2, 7, 9)
+        process.tables = tables
+        process.weights = weights
+        expected = Account(2, 2, 7, 9, tables, weights).regrets()
+        self.assertEqual(regrets(process, []), [2] + listed(expected))
+        self.assertEqual(least_regret_bound(process, []), [max(ceil(regret) for regret in expected)])
+        self.assertGreater(min(expected), 2 ** 64)
+
+    def test_returns(self):
+        process = Process(2, 1, 1, 3)
+        process.tables = [[HUGE] * 4, [-HUGE] * 4]
+        episodes = []
+        told = [2, 4 * HUGE // 3, 1, -4 * HUGE // 3, 1, 0, 0, 0, 0]
+        self.assertEqual(run_episode(process, episodes, [0, 0, 5, 5]), told)
+        self.assertEqual(run_episode(process, episodes, [0, 0, 5, 5]), told)
+        self.assertEqual(total_returns(process, episodes, []), [2, 8 * HUGE // 3, 1, -8 * HUGE // 3, 1])
+        self.assertEqual(corrected_return(process, episodes, [1]), [0, 4 * HUGE // 3, 1])
 
     def test_potentials(self):
         process = Process(2, 1, 1, 3)

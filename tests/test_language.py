@@ -23,6 +23,11 @@ OWN_NAMES_OF_PYTHON = set(
     "len range enumerate zip min max sum abs sorted reversed int str bool list tuple dict isinstance ord repr any all"
     " divmod Exception ValueError KeyError IndexError LookupError ZeroDivisionError".split()
 )
+METHODS_OF_PYTHON = set(
+    "append clear copy count endswith extend find get index insert isalnum isalpha isdigit islower isspace isupper items"
+    " join keys ljust lower lstrip partition pop remove replace reverse rfind rjust rpartition rsplit rstrip setdefault"
+    " split splitlines startswith strip update upper values zfill bit_length".split()
+)
 BANNED_WORDS = re.compile(
     r"\b(type|typing|typing_extensions|enum|Enum|IntEnum|StrEnum|Flag|IntFlag|Generic|Protocol|ABC|ABCMeta|namedtuple"
     r"|NamedTuple|TypedDict|TYPE_CHECKING|abstractmethod)\b|dataclass|overload|contextmanager"
@@ -97,6 +102,40 @@ class Language(unittest.TestCase):
                     self.assertNotIn(name, dir(builtins))
                 used = {node.id for node in ast.walk(tree) if isinstance(node, ast.Name)}
                 self.assertLessEqual(used - bound, OWN_NAMES_OF_PYTHON)
+
+    def test_walks_are_not_kept(self):
+        for path, text in sources():
+            tree = ast.parse(text)
+            walked = [node.iter for node in ast.walk(tree) if isinstance(node, (ast.For, ast.comprehension))]
+            for node in ast.walk(tree):
+                if isinstance(node, ast.Call) and isinstance(node.func, ast.Name):
+                    if node.func.id in ("zip", "enumerate", "reversed", "range"):
+                        with self.subTest(path=path.name, line=node.lineno):
+                            self.assertIn(node, walked)
+
+    def test_methods_and_values(self):
+        methods, kept, used = set(), set(), set()
+        for path, text in sources():
+            for node in ast.walk(ast.parse(text)):
+                if isinstance(node, ast.ClassDef):
+                    methods |= {item.name for item in node.body}
+                elif isinstance(node, ast.Attribute):
+                    (kept if isinstance(node.ctx, ast.Store) else used).add(node.attr)
+        self.assertEqual(methods & kept, set())
+        self.assertLessEqual(used, methods | kept | METHODS_OF_PYTHON)
+        own_of_python = set().union(*[dir(value) for value in ("", 0, [], {}, set(), b"")])
+        self.assertEqual((methods | kept) & own_of_python, {"__init__"})
+
+    def test_no_two_files_draw_from_one_another(self):
+        drawn = {}
+        for path, text in sources():
+            imports = [node for node in ast.walk(ast.parse(text)) if isinstance(node, ast.ImportFrom)]
+            drawn[path.stem] = {node.module.rpartition(".")[2] for node in imports}
+        while drawn:
+            free = [name for name in drawn if not drawn[name] & set(drawn)]
+            self.assertNotEqual(free, [])
+            for name in free:
+                drawn.pop(name)
 
     def test_imports_are_from_the_package_alone(self):
         for path, text in sources():

@@ -2,16 +2,11 @@
 
 import unittest
 
-from tests.helper import BIGGEST, ask, everything, last
+from tests.helper import BIGGEST, ask, everything, last, settings
 
 SMALL = (("create", 2, 2, 1, 2),)
 MIXED = [5, -7, 11, 13, -17, 19, 23, -29]
 FILLED = SMALL + (("set_rewards", 0, MIXED), ("copy_rewards", 1))
-
-
-def settings(*places):
-    """Calls that set single rewards, each told as table, state, action, next state and value."""
-    return tuple(("set_reward", table, state, action, target, [value]) for table, state, action, target, value in places)
 
 
 class AreEquivalent(unittest.TestCase):
